@@ -1,6 +1,9 @@
 package weed
 
-import "isatis/api"
+import (
+	"isatis/api"
+	"isatis/lists"
+)
 
 // asking is a field at work in which rows are asked about for a weeder's
 // number. It remembers the questions by what was answered, as the same answers
@@ -32,7 +35,7 @@ func (a asking) settles(rows []int) bool {
 }
 
 func (a asking) known(truths []sheet) bool {
-	return all(truths, func(t sheet) bool { return a.number(t) == a.number(truths[0]) })
+	return lists.All(truths, func(t sheet) bool { return a.number(t) == a.number(truths[0]) })
 }
 
 // questions is for the truths that agree with what was answered.
@@ -41,7 +44,7 @@ func (a asking) questions(answered sheet, truths []sheet) int {
 		return 0
 	}
 	costs := a.costs(answered, truths)
-	return least(costs[0], costs[1:]...)
+	return lists.Least(costs[0], costs[1:]...)
 }
 
 // costs returns for each row how many questions there are at most if it is
@@ -51,7 +54,7 @@ func (a asking) costs(answered sheet, truths []sheet) []int {
 	costs := make([]int, a.Rows)
 	for row := range a.Rows {
 		costs[row] = api.MaxWeedRows + 1
-		if !all(truths, func(t sheet) bool { return t[row] == truths[0][row] }) {
+		if !lists.All(truths, func(t sheet) bool { return t[row] == truths[0][row] }) {
 			costs[row] = 1 + a.worst(answered, row, truths)
 		}
 	}

@@ -1,5 +1,7 @@
 package weed
 
+import "isatis/lists"
+
 func (r Range) holds(n int) bool { return r.Lo <= n && n <= r.Hi }
 
 func (r Range) upTo(limit int) bool { return 0 <= r.Lo && r.Lo <= r.Hi && r.Hi <= limit }
@@ -16,7 +18,7 @@ func (f Field) validTally(t Tally) bool {
 
 // valid leaves the limits to CheckField, as they are another error.
 func (f Field) valid() bool {
-	return f.Rows >= 1 && f.Weeders >= 1 && f.Left.upTo(f.Rows) && all(f.Tallies, f.validTally)
+	return f.Rows >= 1 && f.Weeders >= 1 && f.Left.upTo(f.Rows) && lists.All(f.Tallies, f.validTally)
 }
 
 // power is asked only of fields within the other limits: of others it need not

@@ -5,6 +5,7 @@ import (
 	"slices"
 
 	"isatis/api"
+	"isatis/lists"
 )
 
 // Range: see the chapter.
@@ -64,8 +65,8 @@ func Ask(f Field, weeder int) ([]int, api.Errno) {
 	if e != api.OK {
 		return nil, e
 	}
-	s := search[asking]{of: w.ask(weeder), size: f.Rows, must: asking.settles}
-	return s.shortest(), api.OK
+	s := lists.Search[asking]{Of: w.ask(weeder), Size: f.Rows, Must: asking.settles}
+	return s.Shortest(), api.OK
 }
 
 // Next returns the row to ask about first, and the questions for all truths;
@@ -80,7 +81,7 @@ func Next(f Field, weeder int) (row, many int, e api.Errno) {
 		return -1, 0, api.OK
 	}
 	costs := a.costs(blank(), w.truths)
-	many = least(costs[0], costs[1:]...)
+	many = lists.Least(costs[0], costs[1:]...)
 	return slices.Index(costs, many), many, api.OK
 }
 
@@ -103,13 +104,13 @@ func Leave(f Field) ([]int, api.Errno) {
 	if e := CheckField(f); e != api.OK {
 		return nil, e
 	}
-	s := search[*work]{of: open(f), size: len(f.Tallies), must: (*work).spares}
-	return s.shortest(), api.OK
+	s := lists.Search[*work]{Of: open(f), Size: len(f.Tallies), Must: (*work).spares}
+	return s.Shortest(), api.OK
 }
 
 // ProveTruth reports whether the field is valid, and the list is a truth of it.
 func ProveTruth(f Field, truth []int) bool {
-	if CheckField(f) != api.OK || len(truth) != f.Rows || !all(truth, f.canSay) {
+	if CheckField(f) != api.OK || len(truth) != f.Rows || !lists.All(truth, f.canSay) {
 		return false
 	}
 	s := blank()
@@ -121,7 +122,7 @@ func ProveTruth(f Field, truth []int) bool {
 // the weeder, in a field that is valid and has a truth.
 func ProveAsk(f Field, weeder int, rows []int) bool {
 	w, e := begin(f, f.hasWeeder(weeder))
-	if e != api.OK || !rises(rows) || !all(rows, f.hasRow) {
+	if e != api.OK || !lists.Rises(rows) || !lists.All(rows, f.hasRow) {
 		return false
 	}
 	return w.ask(weeder).settles(rows)

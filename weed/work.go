@@ -4,6 +4,7 @@ import (
 	"slices"
 
 	"isatis/api"
+	"isatis/lists"
 )
 
 // work is a field at work: with its truths, and with the faults of all allowed
@@ -50,7 +51,7 @@ func (w *work) bounds(weeder int) Range {
 	for _, t := range w.truths {
 		numbers = append(numbers, t.count(w.whole(weeder)))
 	}
-	return Range{Lo: least(numbers[0], numbers[1:]...), Hi: slices.Max(numbers)}
+	return Range{Lo: lists.Least(numbers[0], numbers[1:]...), Hi: slices.Max(numbers)}
 }
 
 func (w *work) who(row int) []int {

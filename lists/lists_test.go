@@ -1,0 +1,85 @@
+package lists_test
+
+import (
+	"slices"
+	"testing"
+
+	"isatis/lists"
+)
+
+func TestAll(t *testing.T) {
+	even := func(n int) bool { return n%2 == 0 }
+	for _, x := range []struct {
+		list []int
+		want bool
+	}{{nil, true}, {[]int{2}, true}, {[]int{2, 4}, true}, {[]int{2, 3}, false}, {[]int{3, 2}, false}} {
+		if lists.All(x.list, even) != x.want {
+			t.Errorf("All of %v", x.list)
+		}
+	}
+}
+
+func TestRises(t *testing.T) {
+	for _, x := range []struct {
+		list []int
+		want bool
+	}{{nil, true}, {[]int{5}, true}, {[]int{-1, 0, 7}, true}, {[]int{1, 1}, false}, {[]int{0, 2, 1}, false}} {
+		if lists.Rises(x.list) != x.want {
+			t.Errorf("Rises of %v", x.list)
+		}
+	}
+}
+
+func TestLeast(t *testing.T) {
+	if lists.Least(3) != 3 || lists.Least(3, 4) != 3 || lists.Least(3, 4, -2, 5) != -2 {
+		t.Error("Least")
+	}
+}
+
+func TestIncreasing(t *testing.T) {
+	for _, x := range []struct {
+		size, length int
+		want         [][]int
+	}{
+		{3, 0, [][]int{{}}},
+		{0, 0, [][]int{{}}},
+		{3, 1, [][]int{{0}, {1}, {2}}},
+		{3, 2, [][]int{{0, 1}, {0, 2}, {1, 2}}},
+		{3, 3, [][]int{{0, 1, 2}}},
+		{3, 4, nil},
+	} {
+		var got [][]int
+		for list := range lists.Increasing(x.size, x.length) {
+			got = append(got, slices.Clone(list))
+		}
+		if !slices.EqualFunc(got, x.want, slices.Equal[[]int]) {
+			t.Errorf("Increasing of %d, %d: %v", x.size, x.length, got)
+		}
+	}
+	many := 0
+	for range lists.Increasing(5, 2) {
+		if many++; many == 3 {
+			break
+		}
+	}
+	if many != 3 {
+		t.Errorf("left after %d lists", many)
+	}
+}
+
+func TestShortest(t *testing.T) {
+	for _, x := range []struct {
+		sum  int
+		want []int
+	}{{0, nil}, {3, []int{3}}, {4, []int{4}}, {5, []int{1, 4}}, {6, []int{2, 4}}, {9, []int{2, 3, 4}}, {11, nil}} {
+		s := lists.Search[int]{Of: x.sum, Size: 5, Must: func(sum int, list []int) bool {
+			for _, n := range list {
+				sum -= n
+			}
+			return sum == 0
+		}}
+		if got := s.Shortest(); !slices.Equal(got, x.want) {
+			t.Errorf("Shortest of the sum %d: %v", x.sum, got)
+		}
+	}
+}
