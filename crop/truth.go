@@ -27,22 +27,16 @@ func (f Field) isTruth(t Truth) bool {
 // Wet follow one another. Each is in memory of its own.
 func (f Field) allTruths() iter.Seq[Truth] {
 	return func(yield func(Truth) bool) {
-		ranges, weeks := f.ranges(), f.Last+1
-		numbers := make([]int, len(ranges))
-		var choose func(at int) bool
-		choose = func(at int) bool {
-			if at == len(ranges) {
-				return yield(Truth{Growth: slices.Clone(numbers[:weeks]), Wet: slices.Clone(numbers[weeks:])})
-			}
-			for n := ranges[at].Lo; n <= ranges[at].Hi; n++ {
-				numbers[at] = n
-				if !choose(at + 1) {
-					return false
-				}
-			}
-			return true
+		var parts [][]int
+		for _, r := range f.ranges() {
+			parts = append(parts, lists.FromTo(r.Lo, r.Hi))
 		}
-		choose(0)
+		weeks := f.Last + 1
+		for numbers := range lists.Choices(parts) {
+			if !yield(Truth{Growth: slices.Clone(numbers[:weeks]), Wet: slices.Clone(numbers[weeks:])}) {
+				return
+			}
+		}
 	}
 }
 

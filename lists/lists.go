@@ -1,5 +1,5 @@
-// Package lists has what all layers do with lists: it tests them, and looks for
-// the shortest increasing one.
+// Package lists has what all layers do with lists: it tests them, chooses them,
+// and looks for the shortest increasing one.
 package lists
 
 import "iter"
@@ -75,5 +75,37 @@ func Increasing(size, length int) iter.Seq[[]int] {
 			return true
 		}
 		choose(0, 0)
+	}
+}
+
+// FromTo is empty if low is above high.
+func FromTo(low, high int) []int {
+	var list []int
+	for n := low; n <= high; n++ {
+		list = append(list, n)
+	}
+	return list
+}
+
+// Choices yields the lists with one element of each part, in lexicographic
+// order of the places that the elements have in their parts. A list is valid
+// until the next one is yielded.
+func Choices[T any](parts [][]T) iter.Seq[[]T] {
+	return func(yield func([]T) bool) {
+		list := make([]T, len(parts))
+		var choose func(at int) bool
+		choose = func(at int) bool {
+			if at == len(parts) {
+				return yield(list)
+			}
+			for _, x := range parts[at] {
+				list[at] = x
+				if !choose(at + 1) {
+					return false
+				}
+			}
+			return true
+		}
+		choose(0)
 	}
 }

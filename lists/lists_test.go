@@ -67,6 +67,49 @@ func TestIncreasing(t *testing.T) {
 	}
 }
 
+func TestFromTo(t *testing.T) {
+	for _, x := range []struct {
+		low, high int
+		want      []int
+	}{{0, 2, []int{0, 1, 2}}, {-1, 0, []int{-1, 0}}, {5, 5, []int{5}}, {1, 0, nil}} {
+		if got := lists.FromTo(x.low, x.high); !slices.Equal(got, x.want) {
+			t.Errorf("FromTo of %d, %d: %v", x.low, x.high, got)
+		}
+	}
+}
+
+func TestChoices(t *testing.T) {
+	for _, x := range []struct {
+		parts, want []string
+	}{
+		{nil, []string{""}},
+		{[]string{"ba"}, []string{"b", "a"}},
+		{[]string{"ab", "c", "de"}, []string{"acd", "ace", "bcd", "bce"}},
+		{[]string{"ab", ""}, nil},
+	} {
+		var parts [][]byte
+		for _, part := range x.parts {
+			parts = append(parts, []byte(part))
+		}
+		var got []string
+		for list := range lists.Choices(parts) {
+			got = append(got, string(list))
+		}
+		if !slices.Equal(got, x.want) {
+			t.Errorf("Choices of %q: %q", x.parts, got)
+		}
+	}
+	many := 0
+	for range lists.Choices([][]int{{1, 2}, {3, 4, 5}}) {
+		if many++; many == 4 {
+			break
+		}
+	}
+	if many != 4 {
+		t.Errorf("left after %d lists", many)
+	}
+}
+
 func TestShortest(t *testing.T) {
 	for _, x := range []struct {
 		sum  int
