@@ -119,15 +119,7 @@ func (w *work) fit(looks []Look) bool {
 }
 
 // spares reports whether these looks can be left out.
-func (w *work) spares(looks []int) bool {
-	var others []Look
-	for i, l := range w.Looks {
-		if !slices.Contains(looks, i) {
-			others = append(others, l)
-		}
-	}
-	return w.fit(others)
-}
+func (w *work) spares(looks []int) bool { return w.fit(lists.Without(w.Looks, looks)) }
 
 func (c Crop) weight() int { return c.Weight }
 

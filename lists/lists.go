@@ -2,7 +2,10 @@
 // and looks for the shortest increasing one.
 package lists
 
-import "iter"
+import (
+	"iter"
+	"slices"
+)
 
 // All reports whether each element passes the test.
 func All[T any](list []T, test func(T) bool) bool {
@@ -32,6 +35,18 @@ func Least(first int, more ...int) int {
 	return first
 }
 
+// Without has what is left of the list if the elements at these places are left
+// out.
+func Without[T any](list []T, places []int) []T {
+	var rest []T
+	for i, x := range list {
+		if !slices.Contains(places, i) {
+			rest = append(rest, x)
+		}
+	}
+	return rest
+}
+
 // Search looks for a list of numbers below Size that is what it must be. Must
 // may not keep a list that it is given.
 type Search[T any] struct {
@@ -41,7 +56,8 @@ type Search[T any] struct {
 }
 
 // Shortest tries increasing lists in an order in which the first one found is
-// the shortest, and of these the one that is lexicographically first.
+// the shortest, and of these the one that is lexicographically first. It returns
+// an empty one if no list is what it must be.
 func (s Search[T]) Shortest() []int {
 	var found []int
 looking:

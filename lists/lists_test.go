@@ -36,6 +36,19 @@ func TestLeast(t *testing.T) {
 	}
 }
 
+func TestWithout(t *testing.T) {
+	for _, x := range []struct {
+		list   string
+		places []int
+		want   string
+	}{{"abcd", nil, "abcd"}, {"abcd", []int{0}, "bcd"}, {"abcd", []int{1, 3}, "ac"}, {"abcd", []int{0, 1, 2, 3}, ""}, {"aba", []int{0}, "ba"}, {"", nil, ""}, {"ab", []int{-1, 2}, "ab"}} {
+		list := []byte(x.list)
+		if got := lists.Without(list, x.places); string(got) != x.want || string(list) != x.list {
+			t.Errorf("Without of %s, %v: %s", x.list, x.places, got)
+		}
+	}
+}
+
 func TestIncreasing(t *testing.T) {
 	for _, x := range []struct {
 		size, length int
