@@ -1,0 +1,297 @@
+package cask_test
+
+import (
+	"math/rand/v2"
+	"slices"
+
+	"isatis/cask"
+)
+
+// The oracle follows the chapter word by word, so that it shares no way of
+// computing with the package. It is for valid cellars.
+
+// anyTruths are those of the cellar without its trials.
+func anyTruths(c cask.Cellar) [][]int {
+	truths := [][]int{nil}
+	for _, h := range c.Heaps {
+		var longer [][]int
+		for _, y := range truths {
+			for n := h.Lo; n <= h.Hi; n++ {
+				longer = append(longer, append(slices.Clone(y), n))
+			}
+		}
+		truths = longer
+	}
+	return truths
+}
+
+// strengthOf takes the parts one by one, and adds to the strength as long as
+// all parts of this strength are not more than there is.
+func strengthOf(weights, y []int) int {
+	sum, parts := 0, 0
+	for heap, weight := range weights {
+		for range weight {
+			sum += y[heap]
+			parts++
+		}
+	}
+	strength := 0
+	for (strength+1)*parts <= sum {
+		strength++
+	}
+	return strength
+}
+
+// thingOf is the strength of a thing: a heap, or else a cask.
+func thingOf(c cask.Cellar, thing int, y []int) int {
+	if thing < len(c.Heaps) {
+		return y[thing]
+	}
+	return strengthOf(c.Casks[thing-len(c.Heaps)], y)
+}
+
+func right(c cask.Cellar, x cask.Trial, y []int) bool {
+	thing := x.Number
+	if x.Cask {
+		thing += len(c.Heaps)
+	}
+	n := thingOf(c, thing, y)
+	return x.Strength.Lo <= n && n <= x.Strength.Hi
+}
+
+func allRight(c cask.Cellar, y []int) bool {
+	return !slices.ContainsFunc(c.Trials, func(x cask.Trial) bool { return !right(c, x, y) })
+}
+
+func truthsOf(c cask.Cellar) (truths [][]int) {
+	for _, y := range anyTruths(c) {
+		if allRight(c, y) {
+			truths = append(truths, y)
+		}
+	}
+	return truths
+}
+
+func isRight(c cask.Cellar) bool { return len(truthsOf(c)) > 0 }
+
+// boundsOf are those of all things.
+func boundsOf(c cask.Cellar) (bounds []cask.Range) {
+	for thing := range len(c.Heaps) + len(c.Casks) {
+		r := to(101, -1)
+		for _, y := range truthsOf(c) {
+			n := thingOf(c, thing, y)
+			r = to(min(r.Lo, n), max(r.Hi, n))
+		}
+		bounds = append(bounds, r)
+	}
+	return bounds
+}
+
+func gradedOf(c cask.Cellar, number, grade int) int {
+	of, all := 0, truthsOf(c)
+	for _, y := range all {
+		if strengthOf(c.Casks[number], y) >= grade {
+			of++
+		}
+	}
+	switch of {
+	case len(all):
+		return cask.Always
+	case 0:
+		return cask.Never
+	}
+	return cask.Perhaps
+}
+
+// allThings are the strengths of all things, in each truth.
+func allThings(c cask.Cellar) (all [][]int) {
+	for _, y := range truthsOf(c) {
+		var l []int
+		for thing := range len(c.Heaps) + len(c.Casks) {
+			l = append(l, thingOf(c, thing, y))
+		}
+		all = append(all, l)
+	}
+	return all
+}
+
+// decides compares any two truths.
+func decides(c cask.Cellar, grade int, things []int) bool {
+	all := allThings(c)
+	for _, a := range all {
+		for _, b := range all {
+			same := !slices.ContainsFunc(things, func(thing int) bool { return a[thing] != b[thing] })
+			for k := len(c.Heaps); same && k < len(a); k++ {
+				if (a[k] >= grade) != (b[k] >= grade) {
+					return false
+				}
+			}
+		}
+	}
+	return true
+}
+
+// shortestFirst are all increasing lists of numbers below size: shorter ones
+// are before longer ones, and those of a length are in lexicographic order.
+func shortestFirst(size int) (list [][]int) {
+	for mask := range 1 << size {
+		l := []int{}
+		for n := range size {
+			if mask>>n&1 == 1 {
+				l = append(l, n)
+			}
+		}
+		list = append(list, l)
+	}
+	slices.SortFunc(list, func(a, b []int) int {
+		if len(a) != len(b) {
+			return len(a) - len(b)
+		}
+		return slices.Compare(a, b)
+	})
+	return list
+}
+
+func fewestOf(c cask.Cellar, grade int) []int {
+	all := shortestFirst(len(c.Heaps) + len(c.Casks))
+	return all[slices.IndexFunc(all, func(things []int) bool { return decides(c, grade, things) })]
+}
+
+// upTo are all lists of one number for each of the stock, in lexicographic
+// order.
+func upTo(stock []int) [][]int {
+	all := [][]int{{}}
+	for _, most := range stock {
+		var longer [][]int
+		for _, l := range all {
+			for n := 0; n <= most; n++ {
+				longer = append(longer, append(slices.Clone(l), n))
+			}
+		}
+		all = longer
+	}
+	return all
+}
+
+// isBlend is for lists that are up to the stock.
+func isBlend(c cask.Cellar, weight, grade int, weights []int) bool {
+	sum := 0
+	for _, n := range weights {
+		sum += n
+	}
+	return sum == weight && !slices.ContainsFunc(truthsOf(c), func(y []int) bool { return strengthOf(weights, y) < grade })
+}
+
+// blendOf is the best blend, and whether there is any.
+func blendOf(c cask.Cellar, stock []int, weight, grade int) ([]int, bool) {
+	for _, l := range upTo(stock) {
+		if isBlend(c, weight, grade, l) {
+			return l, true
+		}
+	}
+	return nil, false
+}
+
+// without is the cellar with the trials alone that are not in the list.
+func without(c cask.Cellar, list []int) cask.Cellar {
+	var kept []cask.Trial
+	for i, x := range c.Trials {
+		if !slices.Contains(list, i) {
+			kept = append(kept, x)
+		}
+	}
+	c.Trials = kept
+	return c
+}
+
+// with is the cellar with one more trial.
+func with(c cask.Cellar, x cask.Trial) cask.Cellar {
+	c.Trials = append(slices.Clone(c.Trials), x)
+	return c
+}
+
+// trialOf is a trial of a thing.
+func trialOf(c cask.Cellar, thing int, strength cask.Range) cask.Trial {
+	if thing < len(c.Heaps) {
+		return cask.Trial{Number: thing, Strength: strength}
+	}
+	return cask.Trial{Cask: true, Number: thing - len(c.Heaps), Strength: strength}
+}
+
+// randomTrial shows what is so in the truth, within some slack; sometimes it
+// has nothing to do with it.
+func randomTrial(r *rand.Rand, c cask.Cellar, y []int) cask.Trial {
+	thing := r.IntN(len(c.Heaps) + len(c.Casks))
+	n := thingOf(c, thing, y)
+	if r.IntN(4) == 0 {
+		n = min(100, max(0, n+r.IntN(9)-4))
+	}
+	return trialOf(c, thing, to(max(0, n-r.IntN(2)), min(100, n+r.IntN(3))))
+}
+
+func randomWeights(r *rand.Rand, many int) []int {
+	weights := make([]int, many)
+	for heap := range weights {
+		weights[heap] = []int{0, r.IntN(4), r.IntN(31)}[r.IntN(3)]
+	}
+	if slices.Max(weights) == 0 {
+		weights[r.IntN(many)] = 1 + r.IntN(30)
+	}
+	return weights
+}
+
+// randomCellar is a valid cellar of so many heaps and casks, without trials,
+// that has at most so many truths.
+func randomCellar(r *rand.Rand, heaps, casks, truths int) cask.Cellar {
+	c := cask.Cellar{Heaps: make([]cask.Range, heaps)}
+	middle := r.IntN(101)
+	for _, heap := range r.Perm(heaps) {
+		low, more := min(100, max(0, middle+r.IntN(21)-10)), r.IntN(min(truths, 15))
+		c.Heaps[heap] = to(low, min(100, low+more))
+		truths /= 1 + more
+	}
+	for range casks {
+		c.Casks = append(c.Casks, randomWeights(r, heaps))
+	}
+	return c
+}
+
+// randomGrade is mostly one that some cask can have, or one more.
+func randomGrade(r *rand.Rand, c cask.Cellar) int {
+	truths := truthsOf(c)
+	if len(c.Casks) == 0 || len(truths) == 0 || r.IntN(6) == 0 {
+		return r.IntN(101)
+	}
+	return min(100, strengthOf(c.Casks[r.IntN(len(c.Casks))], truths[r.IntN(len(truths))])+r.IntN(2))
+}
+
+// randomCellars yields small cellars with at most so many trials, and with a
+// number source for what else a test needs.
+func randomCellars(many, trials int) func(yield func(*rand.Rand, cask.Cellar) bool) {
+	return func(yield func(*rand.Rand, cask.Cellar) bool) {
+		r := rand.New(rand.NewPCG(5, uint64(many)))
+		for range many {
+			c := randomCellar(r, 1+r.IntN(3), r.IntN(4), 1+r.IntN(60))
+			truths := anyTruths(c)
+			y := truths[r.IntN(len(truths))]
+			for range r.IntN(trials + 1) {
+				c.Trials = append(c.Trials, randomTrial(r, c, y))
+			}
+			if !yield(r, c) {
+				return
+			}
+		}
+	}
+}
+
+// bigCellars have three heaps and casks, many truths and one trial.
+func bigCellars() (list []cask.Cellar) {
+	r := rand.New(rand.NewPCG(5, 5))
+	for len(list) < 6 {
+		c := randomCellar(r, 3, 3, 2000)
+		if c = with(c, randomTrial(r, c, anyTruths(c)[0])); isRight(c) && len(anyTruths(c)) > 300 {
+			list = append(list, c)
+		}
+	}
+	return list
+}
