@@ -7,6 +7,7 @@ import (
 
 	"isatis/api"
 	"isatis/cask"
+	"isatis/oracle"
 )
 
 func to(low, high int) cask.Range { return cask.Range{Lo: low, Hi: high} }
@@ -441,7 +442,7 @@ func TestDecide(t *testing.T) {
 			t.Fatalf("Decide of %v, %d: %v, %v; not %v", c, grade, l, e, want)
 		}
 		lengths[len(want)]++
-		for _, things := range shortestFirst(len(c.Heaps) + len(c.Casks)) {
+		for _, things := range oracle.ShortestFirst(len(c.Heaps) + len(c.Casks)) {
 			if want := decides(c, grade, things); cask.ProveDecide(c, grade, things) != want {
 				t.Fatalf("ProveDecide of %v, %d, %v: not %v", c, grade, things, want)
 			}
@@ -602,7 +603,7 @@ func TestFirstAndLeave(t *testing.T) {
 		if n, g := cask.First(c); n != first || g != e {
 			t.Fatalf("First of %v: %d, %v; not %d, %v", c, n, g, first, e)
 		}
-		sets := shortestFirst(len(c.Trials))
+		sets := oracle.ShortestFirst(len(c.Trials))
 		smallest := sets[slices.IndexFunc(sets, func(l []int) bool { return isRight(without(c, l)) })]
 		if l, g := cask.Leave(c); g != api.OK || !slices.Equal(l, smallest) {
 			t.Fatalf("Leave of %v: %v, %v; not %v", c, l, g, smallest)

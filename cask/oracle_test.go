@@ -5,6 +5,7 @@ import (
 	"slices"
 
 	"isatis/cask"
+	"isatis/oracle"
 )
 
 // The oracle follows the chapter word by word, so that it shares no way of
@@ -131,29 +132,8 @@ func decides(c cask.Cellar, grade int, things []int) bool {
 	return true
 }
 
-// shortestFirst are all increasing lists of numbers below size: shorter ones
-// are before longer ones, and those of a length are in lexicographic order.
-func shortestFirst(size int) (list [][]int) {
-	for mask := range 1 << size {
-		l := []int{}
-		for n := range size {
-			if mask>>n&1 == 1 {
-				l = append(l, n)
-			}
-		}
-		list = append(list, l)
-	}
-	slices.SortFunc(list, func(a, b []int) int {
-		if len(a) != len(b) {
-			return len(a) - len(b)
-		}
-		return slices.Compare(a, b)
-	})
-	return list
-}
-
 func fewestOf(c cask.Cellar, grade int) []int {
-	all := shortestFirst(len(c.Heaps) + len(c.Casks))
+	all := oracle.ShortestFirst(len(c.Heaps) + len(c.Casks))
 	return all[slices.IndexFunc(all, func(things []int) bool { return decides(c, grade, things) })]
 }
 

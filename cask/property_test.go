@@ -8,6 +8,7 @@ import (
 
 	"isatis/api"
 	"isatis/cask"
+	"isatis/oracle"
 )
 
 func play(t *testing.T, c cask.Cellar, y []int) []int {
@@ -310,7 +311,7 @@ func TestDecided(t *testing.T) {
 		if !cask.ProveDecide(c, grade, fewest) {
 			t.Fatalf("Decide of %v, %d: %v, which do not decide it", c, grade, fewest)
 		}
-		for _, things := range shortestFirst(len(c.Heaps) + len(c.Casks)) {
+		for _, things := range oracle.ShortestFirst(len(c.Heaps) + len(c.Casks)) {
 			if slices.Equal(things, fewest) {
 				break
 			}
@@ -405,7 +406,7 @@ func TestLeftOut(t *testing.T) {
 	for _, c := range randomCellars(500, 5) {
 		smallest := leave(t, c)
 		bounds(t, without(c, smallest))
-		for _, l := range shortestFirst(len(c.Trials)) {
+		for _, l := range oracle.ShortestFirst(len(c.Trials)) {
 			if slices.Equal(l, smallest) {
 				break
 			}

@@ -7,6 +7,7 @@ import (
 
 	"isatis/api"
 	"isatis/couch"
+	"isatis/oracle"
 )
 
 func to(low, high int) couch.Range { return couch.Range{Lo: low, Hi: high} }
@@ -571,7 +572,7 @@ func TestFirstAndLeave(t *testing.T) {
 		if n, g := couch.First(h); n != first || g != e {
 			t.Fatalf("First of %v: %d, %v; not %d, %v", h, n, g, first, e)
 		}
-		sets := shortestFirst(len(h.Readings))
+		sets := oracle.ShortestFirst(len(h.Readings))
 		smallest := sets[slices.IndexFunc(sets, func(l []int) bool { return isRight(without(h, l)) })]
 		if l, g := couch.Leave(h); g != api.OK || !slices.Equal(l, smallest) {
 			t.Fatalf("Leave of %v: %v, %v; not %v", h, l, g, smallest)

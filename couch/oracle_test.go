@@ -5,6 +5,7 @@ import (
 	"slices"
 
 	"isatis/couch"
+	"isatis/oracle"
 )
 
 // The oracle follows the chapter word by word, so that it shares no way of
@@ -115,31 +116,10 @@ func fearOf(h couch.Heap, turns []int) (d couch.Danger) {
 	return couch.Danger{}
 }
 
-// shortestFirst are all increasing lists of numbers below size: shorter ones
-// are before longer ones, and those of a length are in lexicographic order.
-func shortestFirst(size int) (list [][]int) {
-	for mask := range 1 << size {
-		l := []int{}
-		for n := range size {
-			if mask>>n&1 == 1 {
-				l = append(l, n)
-			}
-		}
-		list = append(list, l)
-	}
-	slices.SortFunc(list, func(a, b []int) int {
-		if len(a) != len(b) {
-			return len(a) - len(b)
-		}
-		return slices.Compare(a, b)
-	})
-	return list
-}
-
 // fewestOf are the fewest turnings, and whether there are any.
 func fewestOf(h couch.Heap) ([]int, bool) {
 	truths := truthsOf(h)
-	for _, turns := range shortestFirst(h.Last + 1) {
+	for _, turns := range oracle.ShortestFirst(h.Last + 1) {
 		if !slices.ContainsFunc(truths, func(y couch.Truth) bool { return lostIn(h, y, turns) }) {
 			return turns, true
 		}

@@ -8,6 +8,7 @@ import (
 
 	"isatis/api"
 	"isatis/couch"
+	"isatis/oracle"
 )
 
 func play(t *testing.T, h couch.Heap, y couch.Truth, turns []int) []int {
@@ -176,7 +177,7 @@ func TestNoneAreFewer(t *testing.T) {
 		if e == api.OK && !couch.ProveKeeps(h, fewest) {
 			t.Fatalf("Fewest of %v: %v, which do not keep it", h, fewest)
 		}
-		for _, turns := range shortestFirst(h.Last + 1) {
+		for _, turns := range oracle.ShortestFirst(h.Last + 1) {
 			if e == api.OK && slices.Equal(turns, fewest) {
 				break
 			}
@@ -354,7 +355,7 @@ func TestLeftOut(t *testing.T) {
 	for _, h := range randomHeaps(500, 5) {
 		smallest := leave(t, h)
 		bounds(t, without(h, smallest), nil)
-		for _, l := range shortestFirst(len(h.Readings)) {
+		for _, l := range oracle.ShortestFirst(len(h.Readings)) {
 			if slices.Equal(l, smallest) {
 				break
 			}

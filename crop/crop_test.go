@@ -7,6 +7,7 @@ import (
 
 	"isatis/api"
 	"isatis/crop"
+	"isatis/oracle"
 )
 
 func to(low, high int) crop.Range { return crop.Range{Lo: low, Hi: high} }
@@ -504,7 +505,7 @@ func TestFirstAndLeave(t *testing.T) {
 		if n, g := crop.First(f); n != first || g != e {
 			t.Fatalf("First of %v: %d, %v; not %d, %v", f, n, g, first, e)
 		}
-		sets := shortestFirst(f)
+		sets := oracle.ShortestFirst(len(f.Looks))
 		smallest := sets[slices.IndexFunc(sets, func(l []int) bool { return isRight(without(f, l)) })]
 		if l, g := crop.Leave(f); g != api.OK || !slices.Equal(l, smallest) {
 			t.Fatalf("Leave of %v: %v, %v; not %v", f, l, g, smallest)

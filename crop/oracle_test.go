@@ -5,6 +5,7 @@ import (
 	"slices"
 
 	"isatis/crop"
+	"isatis/oracle"
 )
 
 // The oracle follows the chapter word by word, so that it shares no way of
@@ -95,31 +96,11 @@ func rangeOf(truths []crop.Truth, of func(crop.Truth) int) crop.Range {
 	return r
 }
 
-// subsets are all increasing lists of numbers below size, in lexicographic order.
-func subsets(size int) (list [][]int) {
-	for mask := range 1 << size {
-		l := []int{}
-		for n := range size {
-			if mask>>n&1 == 1 {
-				l = append(l, n)
-			}
-		}
-		list = append(list, l)
-	}
-	slices.SortFunc(list, slices.Compare[[]int])
-	return list
-}
-
 // plansOf are all plans of the field, in lexicographic order.
 func plansOf(f crop.Field) [][]int {
-	return slices.DeleteFunc(subsets(f.Last+1), func(l []int) bool { return len(l) > len(f.Base) })
-}
-
-// shortestFirst are the sets of the field's looks, as they are tried.
-func shortestFirst(f crop.Field) [][]int {
-	list := subsets(len(f.Looks))
-	slices.SortStableFunc(list, func(a, b []int) int { return len(a) - len(b) })
-	return list
+	plans := slices.DeleteFunc(oracle.ShortestFirst(f.Last+1), func(l []int) bool { return len(l) > len(f.Base) })
+	slices.SortFunc(plans, slices.Compare[[]int])
+	return plans
 }
 
 // without is the field with the looks alone that are not in the list.

@@ -250,27 +250,6 @@ func feedings(many int) [][]int {
 	return all
 }
 
-// shortestFirst are all increasing lists of numbers below size: shorter ones
-// are before longer ones, and those of a length are in lexicographic order.
-func shortestFirst(size int) (list [][]int) {
-	for mask := range 1 << size {
-		l := []int{}
-		for n := range size {
-			if mask>>n&1 == 1 {
-				l = append(l, n)
-			}
-		}
-		list = append(list, l)
-	}
-	slices.SortFunc(list, func(a, b []int) int {
-		if len(a) != len(b) {
-			return len(a) - len(b)
-		}
-		return slices.Compare(a, b)
-	})
-	return list
-}
-
 // without is the vat with the looks alone that are not in the list.
 func without(v vat.Vat, list []int) vat.Vat {
 	var kept []vat.Look

@@ -7,6 +7,7 @@ import (
 	"testing"
 
 	"isatis/api"
+	"isatis/oracle"
 	"isatis/vat"
 )
 
@@ -427,7 +428,7 @@ func TestLeftOut(t *testing.T) {
 	for _, v := range randomVats(500, 5) {
 		smallest := leave(t, v)
 		bounds(t, without(v, smallest))
-		for _, l := range shortestFirst(len(v.Looks)) {
+		for _, l := range oracle.ShortestFirst(len(v.Looks)) {
 			if slices.Equal(l, smallest) {
 				break
 			}

@@ -6,6 +6,7 @@ import (
 	"testing"
 
 	"isatis/api"
+	"isatis/oracle"
 	"isatis/vat"
 )
 
@@ -735,7 +736,7 @@ func TestFirstAndLeave(t *testing.T) {
 		if n, g := vat.First(v); n != first || g != e {
 			t.Fatalf("First of %v: %d, %v; not %d, %v", v, n, g, first, e)
 		}
-		sets := shortestFirst(len(v.Looks))
+		sets := oracle.ShortestFirst(len(v.Looks))
 		smallest := sets[slices.IndexFunc(sets, func(l []int) bool { return isRight(without(v, l)) })]
 		if l, g := vat.Leave(v); g != api.OK || !slices.Equal(l, smallest) {
 			t.Fatalf("Leave of %v: %v, %v; not %v", v, l, g, smallest)

@@ -89,27 +89,6 @@ func settled(truths [][]int, weeder int, rows []int) bool {
 	return true
 }
 
-// subsets are all increasing lists of numbers below size, the shorter ones
-// first, and those of one length in lexicographic order.
-func subsets(size int) (list [][]int) {
-	for mask := range 1 << size {
-		l := []int{}
-		for n := range size {
-			if mask>>n&1 == 1 {
-				l = append(l, n)
-			}
-		}
-		list = append(list, l)
-	}
-	slices.SortFunc(list, func(a, b []int) int {
-		if len(a) != len(b) {
-			return len(a) - len(b)
-		}
-		return slices.Compare(a, b)
-	})
-	return list
-}
-
 // questionsOf returns the questions for the truths, and the first row with
 // which they are reached, or -1.
 func questionsOf(truths [][]int, weeder int) (row, many int) {

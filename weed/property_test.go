@@ -7,6 +7,7 @@ import (
 	"testing"
 
 	"isatis/api"
+	"isatis/oracle"
 	"isatis/weed"
 )
 
@@ -117,7 +118,7 @@ func TestSettled(t *testing.T) {
 			if !weed.ProveAsk(f, weeder, fewest) {
 				t.Fatalf("ProveAsk of %v, %d, %v", f, weeder, fewest)
 			}
-			for _, rows := range subsets(f.Rows) {
+			for _, rows := range oracle.ShortestFirst(f.Rows) {
 				if slices.Equal(rows, fewest) {
 					break
 				}
@@ -255,7 +256,7 @@ func TestLeftOut(t *testing.T) {
 	for _, f := range randomFields(500, 5) {
 		smallest := leave(t, f)
 		bounds(t, without(f, smallest))
-		for _, l := range subsets(len(f.Tallies)) {
+		for _, l := range oracle.ShortestFirst(len(f.Tallies)) {
 			if slices.Equal(l, smallest) {
 				break
 			}

@@ -6,6 +6,7 @@ import (
 	"testing"
 
 	"isatis/api"
+	"isatis/oracle"
 	"isatis/weed"
 )
 
@@ -231,7 +232,7 @@ func TestAsk(t *testing.T) {
 		weeder := r.IntN(f.Weeders)
 		var fewest []int
 		found := false
-		for _, rows := range subsets(f.Rows) {
+		for _, rows := range oracle.ShortestFirst(f.Rows) {
 			settles := settled(truths, weeder, rows)
 			if weed.ProveAsk(f, weeder, rows) != settles {
 				t.Fatalf("ProveAsk of %v, %d, %v: %v", f, weeder, rows, !settles)
@@ -307,7 +308,7 @@ func TestFirstAndLeave(t *testing.T) {
 		if n, g := weed.First(f); n != first || g != e {
 			t.Fatalf("First of %v: %d, %v; not %d, %v", f, n, g, first, e)
 		}
-		sets := subsets(len(f.Tallies))
+		sets := oracle.ShortestFirst(len(f.Tallies))
 		smallest := sets[slices.IndexFunc(sets, func(l []int) bool { return isRight(without(f, l)) })]
 		if l, g := weed.Leave(f); g != api.OK || !slices.Equal(l, smallest) {
 			t.Fatalf("Leave of %v: %v, %v; not %v", f, l, g, smallest)
