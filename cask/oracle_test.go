@@ -12,19 +12,7 @@ import (
 // computing with the package. It is for valid cellars.
 
 // anyTruths are those of the cellar without its trials.
-func anyTruths(c cask.Cellar) [][]int {
-	truths := [][]int{nil}
-	for _, h := range c.Heaps {
-		var longer [][]int
-		for _, y := range truths {
-			for n := h.Lo; n <= h.Hi; n++ {
-				longer = append(longer, append(slices.Clone(y), n))
-			}
-		}
-		truths = longer
-	}
-	return truths
-}
+func anyTruths(c cask.Cellar) [][]int { return oracle.OneOfEach(c.Heaps...) }
 
 // strengthOf takes the parts one by one, and adds to the strength as long as
 // all parts of this strength are not more than there is.
@@ -140,17 +128,11 @@ func fewestOf(c cask.Cellar, grade int) []int {
 // upTo are all lists of one number for each of the stock, in lexicographic
 // order.
 func upTo(stock []int) [][]int {
-	all := [][]int{{}}
+	var ranges []cask.Range
 	for _, most := range stock {
-		var longer [][]int
-		for _, l := range all {
-			for n := 0; n <= most; n++ {
-				longer = append(longer, append(slices.Clone(l), n))
-			}
-		}
-		all = longer
+		ranges = append(ranges, cask.Range{Hi: most})
 	}
-	return all
+	return oracle.OneOfEach(ranges...)
 }
 
 // isBlend is for lists that are up to the stock.
@@ -174,13 +156,7 @@ func blendOf(c cask.Cellar, stock []int, weight, grade int) ([]int, bool) {
 
 // without is the cellar with the trials alone that are not in the list.
 func without(c cask.Cellar, list []int) cask.Cellar {
-	var kept []cask.Trial
-	for i, x := range c.Trials {
-		if !slices.Contains(list, i) {
-			kept = append(kept, x)
-		}
-	}
-	c.Trials = kept
+	c.Trials = oracle.Without(c.Trials, list)
 	return c
 }
 

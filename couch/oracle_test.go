@@ -14,16 +14,9 @@ import (
 // anyTruths are those of the heap without its readings.
 func anyTruths(h couch.Heap) (truths []couch.Truth) {
 	for heat := h.Start.Lo; heat <= h.Start.Hi; heat++ {
-		truths = append(truths, couch.Truth{Start: heat})
-	}
-	for hour := 0; hour <= h.Last; hour++ {
-		var longer []couch.Truth
-		for _, y := range truths {
-			for wet := h.Wet[hour].Lo; wet <= h.Wet[hour].Hi; wet++ {
-				longer = append(longer, couch.Truth{Start: y.Start, Wet: append(slices.Clone(y.Wet), wet)})
-			}
+		for _, wet := range oracle.OneOfEach(h.Wet...) {
+			truths = append(truths, couch.Truth{Start: heat, Wet: wet})
 		}
-		truths = longer
 	}
 	return truths
 }
@@ -129,13 +122,7 @@ func fewestOf(h couch.Heap) ([]int, bool) {
 
 // without is the heap with the readings alone that are not in the list.
 func without(h couch.Heap, list []int) couch.Heap {
-	var kept []couch.Reading
-	for i, r := range h.Readings {
-		if !slices.Contains(list, i) {
-			kept = append(kept, r)
-		}
-	}
-	h.Readings = kept
+	h.Readings = oracle.Without(h.Readings, list)
 	return h
 }
 

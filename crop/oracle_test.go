@@ -105,13 +105,7 @@ func plansOf(f crop.Field) [][]int {
 
 // without is the field with the looks alone that are not in the list.
 func without(f crop.Field, list []int) crop.Field {
-	var kept []crop.Look
-	for i, l := range f.Looks {
-		if !slices.Contains(list, i) {
-			kept = append(kept, l)
-		}
-	}
-	f.Looks = kept
+	f.Looks = oracle.Without(f.Looks, list)
 	return f
 }
 

@@ -41,19 +41,7 @@ func caskOf(weights, heaps []int) int {
 }
 
 // fills are lists of one number for each heap, in lexicographic order.
-func fills(c mix.Case) [][]int {
-	all := [][]int{{}}
-	for _, h := range c.Cellar.Heaps {
-		var longer [][]int
-		for _, l := range all {
-			for n := h.Lo; n <= h.Hi; n++ {
-				longer = append(longer, append(slices.Clone(l), n))
-			}
-		}
-		all = longer
-	}
-	return all
-}
+func fills(c mix.Case) [][]int { return oracle.OneOfEach(c.Cellar.Heaps...) }
 
 func isAllowed(c mix.Case, heaps []int) bool {
 	for _, x := range c.Cellar.Trials {
@@ -186,13 +174,7 @@ func firstOf(c mix.Case) (int, api.Errno) {
 
 // without is the case with the tests that are left if these are left out.
 func without(c mix.Case, tests []int) mix.Case {
-	var kept []mix.Range
-	for n, r := range c.Tests {
-		if !slices.Contains(tests, n) {
-			kept = append(kept, r)
-		}
-	}
-	c.Tests = kept
+	c.Tests = oracle.Without(c.Tests, tests)
 	return c
 }
 

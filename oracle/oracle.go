@@ -26,3 +26,32 @@ func ShortestFirst(size int) [][]int {
 	})
 	return list
 }
+
+// OneOfEach has all lists of one number from each range, in lexicographic order.
+// It makes longer lists from shorter ones, without a closure as package lists has.
+func OneOfEach[R ~struct{ Lo, Hi int }](ranges ...R) [][]int {
+	list := [][]int{{}}
+	for _, r := range ranges {
+		ends := struct{ Lo, Hi int }(r)
+		var longer [][]int
+		for _, l := range list {
+			for n := ends.Lo; n <= ends.Hi; n++ {
+				longer = append(longer, append(slices.Clone(l), n))
+			}
+		}
+		list = longer
+	}
+	return list
+}
+
+// Without has what is left of the list if the elements at these places are left
+// out.
+func Without[T any](list []T, places []int) []T {
+	var kept []T
+	for i, x := range list {
+		if !slices.Contains(places, i) {
+			kept = append(kept, x)
+		}
+	}
+	return kept
+}

@@ -5,6 +5,7 @@ import (
 	"slices"
 
 	"isatis/api"
+	"isatis/oracle"
 	"isatis/piece"
 	"isatis/vat"
 )
@@ -14,16 +15,7 @@ import (
 
 // anyTruths are those of the vat without its looks.
 func anyTruths(v vat.Vat) (truths []vat.Truth) {
-	drifts := [][]int{nil}
-	for _, r := range v.Drift {
-		var longer [][]int
-		for _, l := range drifts {
-			for n := r.Lo; n <= r.Hi; n++ {
-				longer = append(longer, append(slices.Clone(l), n))
-			}
-		}
-		drifts = longer
-	}
+	drifts := oracle.OneOfEach(v.Drift...)
 	for start := v.Start.Lo; start <= v.Start.Hi; start++ {
 		for blue := v.Blue.Lo; blue <= v.Blue.Hi; blue++ {
 			for _, l := range drifts {

@@ -4,6 +4,7 @@ import (
 	"math/rand/v2"
 	"slices"
 
+	"isatis/oracle"
 	"isatis/rack"
 )
 
@@ -39,17 +40,11 @@ func longest(wet []bool) int {
 }
 
 func comingsOf(y rack.Yard) [][]int {
-	comings := [][]int{{}}
+	var days []rack.Range
 	for _, l := range y.Lots {
-		var longer [][]int
-		for _, comes := range comings {
-			for day := l.Comes.Lo; day <= l.Comes.Hi; day++ {
-				longer = append(longer, append(slices.Clone(comes), day))
-			}
-		}
-		comings = longer
+		days = append(days, l.Comes)
 	}
-	return comings
+	return oracle.OneOfEach(days...)
 }
 
 // truthsOf are the allowed ones.

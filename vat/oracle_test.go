@@ -4,6 +4,7 @@ import (
 	"math/rand/v2"
 	"slices"
 
+	"isatis/oracle"
 	"isatis/vat"
 )
 
@@ -12,16 +13,7 @@ import (
 
 // anyTruths are those of the vat without its looks.
 func anyTruths(v vat.Vat) (truths []vat.Truth) {
-	drifts := [][]int{nil}
-	for _, r := range v.Drift {
-		var longer [][]int
-		for _, l := range drifts {
-			for n := r.Lo; n <= r.Hi; n++ {
-				longer = append(longer, append(slices.Clone(l), n))
-			}
-		}
-		drifts = longer
-	}
+	drifts := oracle.OneOfEach(v.Drift...)
 	for start := v.Start.Lo; start <= v.Start.Hi; start++ {
 		for blue := v.Blue.Lo; blue <= v.Blue.Hi; blue++ {
 			for _, l := range drifts {
@@ -237,28 +229,12 @@ func showsOf(v vat.Vat, p vat.Proof) bool {
 
 // feedings are all lists of so many numbers of a feeding.
 func feedings(many int) [][]int {
-	all := [][]int{{}}
-	for range many {
-		var longer [][]int
-		for _, l := range all {
-			for n := -9; n <= 9; n++ {
-				longer = append(longer, append(slices.Clone(l), n))
-			}
-		}
-		all = longer
-	}
-	return all
+	return oracle.OneOfEach(slices.Repeat([]vat.Range{{Lo: -9, Hi: 9}}, many)...)
 }
 
 // without is the vat with the looks alone that are not in the list.
 func without(v vat.Vat, list []int) vat.Vat {
-	var kept []vat.Look
-	for i, l := range v.Looks {
-		if !slices.Contains(list, i) {
-			kept = append(kept, l)
-		}
-	}
-	v.Looks = kept
+	v.Looks = oracle.Without(v.Looks, list)
 	return v
 }
 

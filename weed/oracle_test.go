@@ -4,6 +4,7 @@ import (
 	"math/rand/v2"
 	"slices"
 
+	"isatis/oracle"
 	"isatis/weed"
 )
 
@@ -30,17 +31,7 @@ func right(y weed.Tally, truth []int) bool {
 
 // sheets are all lists with a number from low to high for each row.
 func sheets(rows, low, high int) [][]int {
-	list := [][]int{{}}
-	for range rows {
-		var longer [][]int
-		for _, l := range list {
-			for n := low; n <= high; n++ {
-				longer = append(longer, append(slices.Clone(l), n))
-			}
-		}
-		list = longer
-	}
-	return list
+	return oracle.OneOfEach(slices.Repeat([]weed.Range{{Lo: low, Hi: high}}, rows)...)
 }
 
 func allowedTruths(f weed.Field) (list [][]int) {
@@ -116,13 +107,7 @@ func questionsOf(truths [][]int, weeder int) (row, many int) {
 
 // without is the field with the tallies alone that are not in the list.
 func without(f weed.Field, list []int) weed.Field {
-	var kept []weed.Tally
-	for i, y := range f.Tallies {
-		if !slices.Contains(list, i) {
-			kept = append(kept, y)
-		}
-	}
-	f.Tallies = kept
+	f.Tallies = oracle.Without(f.Tallies, list)
 	return f
 }
 
