@@ -354,12 +354,12 @@ func TestEdgesOfStrengths(t *testing.T) {
 func TestPlayAndProveTruth(t *testing.T) {
 	for _, c := range randomCellars(300, 3) {
 		for _, y := range anyTruths(c) {
-			if cask.ProveTruth(c, y) != allRight(c, y) {
-				t.Fatalf("ProveTruth of %v, %v: %v", c, y, !allRight(c, y))
+			if cask.ProveTruth(c, y) != oracle.AllRight(c, y) {
+				t.Fatalf("ProveTruth of %v, %v: %v", c, y, !oracle.AllRight(c, y))
 			}
 			var want []int
 			for _, weights := range c.Casks {
-				want = append(want, strengthOf(weights, y))
+				want = append(want, oracle.StrengthOf(weights, y))
 			}
 			if l, e := cask.Play(c, y); e != api.OK || !slices.Equal(l, want) {
 				t.Fatalf("Play of %v, %v: %v, %v; not %v", c, y, l, e, want)

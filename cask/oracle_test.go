@@ -14,60 +14,21 @@ import (
 // anyTruths are those of the cellar without its trials.
 func anyTruths(c cask.Cellar) [][]int { return oracle.OneOfEach(c.Heaps...) }
 
-// strengthOf takes the parts one by one, and adds to the strength as long as
-// all parts of this strength are not more than there is.
-func strengthOf(weights, y []int) int {
-	sum, parts := 0, 0
-	for heap, weight := range weights {
-		for range weight {
-			sum += y[heap]
-			parts++
-		}
-	}
-	strength := 0
-	for (strength+1)*parts <= sum {
-		strength++
-	}
-	return strength
-}
-
 // thingOf is the strength of a thing: a heap, or else a cask.
 func thingOf(c cask.Cellar, thing int, y []int) int {
 	if thing < len(c.Heaps) {
 		return y[thing]
 	}
-	return strengthOf(c.Casks[thing-len(c.Heaps)], y)
+	return oracle.StrengthOf(c.Casks[thing-len(c.Heaps)], y)
 }
 
-func right(c cask.Cellar, x cask.Trial, y []int) bool {
-	thing := x.Number
-	if x.Cask {
-		thing += len(c.Heaps)
-	}
-	n := thingOf(c, thing, y)
-	return x.Strength.Lo <= n && n <= x.Strength.Hi
-}
-
-func allRight(c cask.Cellar, y []int) bool {
-	return !slices.ContainsFunc(c.Trials, func(x cask.Trial) bool { return !right(c, x, y) })
-}
-
-func truthsOf(c cask.Cellar) (truths [][]int) {
-	for _, y := range anyTruths(c) {
-		if allRight(c, y) {
-			truths = append(truths, y)
-		}
-	}
-	return truths
-}
-
-func isRight(c cask.Cellar) bool { return len(truthsOf(c)) > 0 }
+func isRight(c cask.Cellar) bool { return len(oracle.TruthsOf(c)) > 0 }
 
 // boundsOf are those of all things.
 func boundsOf(c cask.Cellar) (bounds []cask.Range) {
 	for thing := range len(c.Heaps) + len(c.Casks) {
 		r := to(101, -1)
-		for _, y := range truthsOf(c) {
+		for _, y := range oracle.TruthsOf(c) {
 			n := thingOf(c, thing, y)
 			r = to(min(r.Lo, n), max(r.Hi, n))
 		}
@@ -77,9 +38,9 @@ func boundsOf(c cask.Cellar) (bounds []cask.Range) {
 }
 
 func gradedOf(c cask.Cellar, number, grade int) int {
-	of, all := 0, truthsOf(c)
+	of, all := 0, oracle.TruthsOf(c)
 	for _, y := range all {
-		if strengthOf(c.Casks[number], y) >= grade {
+		if oracle.StrengthOf(c.Casks[number], y) >= grade {
 			of++
 		}
 	}
@@ -94,7 +55,7 @@ func gradedOf(c cask.Cellar, number, grade int) int {
 
 // allThings are the strengths of all things, in each truth.
 func allThings(c cask.Cellar) (all [][]int) {
-	for _, y := range truthsOf(c) {
+	for _, y := range oracle.TruthsOf(c) {
 		var l []int
 		for thing := range len(c.Heaps) + len(c.Casks) {
 			l = append(l, thingOf(c, thing, y))
@@ -137,11 +98,7 @@ func upTo(stock []int) [][]int {
 
 // isBlend is for lists that are up to the stock.
 func isBlend(c cask.Cellar, weight, grade int, weights []int) bool {
-	sum := 0
-	for _, n := range weights {
-		sum += n
-	}
-	return sum == weight && !slices.ContainsFunc(truthsOf(c), func(y []int) bool { return strengthOf(weights, y) < grade })
+	return oracle.Sum(weights) == weight && !slices.ContainsFunc(oracle.TruthsOf(c), func(y []int) bool { return oracle.StrengthOf(weights, y) < grade })
 }
 
 // blendOf is the best blend, and whether there is any.
@@ -214,11 +171,11 @@ func randomCellar(r *rand.Rand, heaps, casks, truths int) cask.Cellar {
 
 // randomGrade is mostly one that some cask can have, or one more.
 func randomGrade(r *rand.Rand, c cask.Cellar) int {
-	truths := truthsOf(c)
+	truths := oracle.TruthsOf(c)
 	if len(c.Casks) == 0 || len(truths) == 0 || r.IntN(6) == 0 {
 		return r.IntN(101)
 	}
-	return min(100, strengthOf(c.Casks[r.IntN(len(c.Casks))], truths[r.IntN(len(truths))])+r.IntN(2))
+	return min(100, oracle.StrengthOf(c.Casks[r.IntN(len(c.Casks))], truths[r.IntN(len(truths))])+r.IntN(2))
 }
 
 // randomCellars yields small cellars with at most so many trials, and with a

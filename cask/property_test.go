@@ -111,7 +111,7 @@ func TestInEachTruth(t *testing.T) {
 		for number := range c.Casks {
 			kinds = append(kinds, graded(t, c, number, grade))
 		}
-		for _, y := range truthsOf(c) {
+		for _, y := range oracle.TruthsOf(c) {
 			casks := play(t, c, y)
 			for thing, n := range slices.Concat(y, casks) {
 				if n < b[thing].Lo || n > b[thing].Hi {
@@ -319,7 +319,7 @@ func TestDecided(t *testing.T) {
 				t.Fatalf("Decide of %v, %d: %v, not %v", c, grade, fewest, things)
 			}
 		}
-		truths := truthsOf(c)
+		truths := oracle.TruthsOf(c)
 		for range 5 {
 			g := exact(c, fewest, truths[r.IntN(len(truths))])
 			for number := range c.Casks {

@@ -35,6 +35,14 @@ func Least(first int, more ...int) int {
 	return first
 }
 
+func Sum(list []int) int {
+	all := 0
+	for _, n := range list {
+		all += n
+	}
+	return all
+}
+
 // Without has what is left of the list if the elements at these places are left
 // out.
 func Without[T any](list []T, places []int) []T {

@@ -36,6 +36,17 @@ func TestLeast(t *testing.T) {
 	}
 }
 
+func TestSum(t *testing.T) {
+	for _, x := range []struct {
+		list []int
+		want int
+	}{{nil, 0}, {[]int{7}, 7}, {[]int{3, -5, 1}, -1}} {
+		if got := lists.Sum(x.list); got != x.want {
+			t.Errorf("Sum of %v: %d", x.list, got)
+		}
+	}
+}
+
 func TestWithout(t *testing.T) {
 	for _, x := range []struct {
 		list   string

@@ -8,6 +8,7 @@ import (
 	"isatis/api"
 	"isatis/cask"
 	"isatis/mix"
+	"isatis/oracle"
 )
 
 func to(low, high int) mix.Range { return mix.Range{Lo: low, Hi: high} }
@@ -381,12 +382,12 @@ func TestProofs(t *testing.T) {
 			if n, e := mix.Play(c, y); e != api.OK || n != strengthOf(c, y) {
 				t.Fatalf("Play of %v, %v: %d, %v", c, y, n, e)
 			}
-			want := isAllowed(c, heaps) && isTruth(c, y)
+			want := oracle.AllRight(c.Cellar, heaps) && isTruth(c, y)
 			if mix.ProveTruth(c, y) != want {
 				t.Fatalf("ProveTruth of %v, %v: not %v", c, y, want)
 			}
 			truths[want]++
-			alone := isAllowed(c, heaps) && isTruth(c, truth(0, c.Bad.Lo, heaps...))
+			alone := oracle.AllRight(c.Cellar, heaps) && isTruth(c, truth(0, c.Bad.Lo, heaps...))
 			if mix.ProveInnocent(c, heaps) != alone {
 				t.Fatalf("ProveInnocent of %v, %v: not %v", c, heaps, alone)
 			}

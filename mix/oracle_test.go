@@ -15,56 +15,13 @@ import (
 
 func isIn(n int, r mix.Range) bool { return r.Lo <= n && n <= r.Hi }
 
-// down divides, rounded down, by adding as long as there is enough.
-func down(sum, parts int) int {
-	n := 0
-	for (n+1)*parts <= sum {
-		n++
-	}
-	return n
-}
-
-func sum(l []int) int {
-	n := 0
-	for _, x := range l {
-		n += x
-	}
-	return n
-}
-
-func caskOf(weights, heaps []int) int {
-	n := 0
-	for heap, weight := range weights {
-		n += weight * heaps[heap]
-	}
-	return down(n, sum(weights))
-}
-
 // fills are lists of one number for each heap, in lexicographic order.
 func fills(c mix.Case) [][]int { return oracle.OneOfEach(c.Cellar.Heaps...) }
-
-func isAllowed(c mix.Case, heaps []int) bool {
-	for _, x := range c.Cellar.Trials {
-		n := 0
-		if x.Cask {
-			n = caskOf(c.Cellar.Casks[x.Number], heaps)
-		} else {
-			n = heaps[x.Number]
-		}
-		if n < x.Strength.Lo || n > x.Strength.Hi {
-			return false
-		}
-	}
-	return true
-}
 
 // anyTruths are those without regard to tests, in the order of their heaps, their
 // share and their bad woad.
 func anyTruths(c mix.Case) (truths []mix.Truth) {
-	for _, heaps := range fills(c) {
-		if !isAllowed(c, heaps) {
-			continue
-		}
+	for _, heaps := range oracle.TruthsOf(c.Cellar) {
 		for share := 0; share <= c.Most; share++ {
 			for bad := c.Bad.Lo; bad <= c.Bad.Hi; bad++ {
 				truths = append(truths, mix.Truth{Heaps: heaps, Share: share, Bad: bad})
@@ -76,8 +33,8 @@ func anyTruths(c mix.Case) (truths []mix.Truth) {
 
 func strengthOf(c mix.Case, y mix.Truth) int {
 	weights := c.Cellar.Casks[c.Sold]
-	rest := sum(weights) - y.Share
-	return down(caskOf(weights, y.Heaps)*rest+y.Bad*y.Share, sum(weights))
+	rest := oracle.Sum(weights) - y.Share
+	return oracle.Down(oracle.StrengthOf(weights, y.Heaps)*rest+y.Bad*y.Share, oracle.Sum(weights))
 }
 
 func isTruth(c mix.Case, y mix.Truth) bool {
@@ -218,7 +175,7 @@ func randomTrial(r *rand.Rand, c mix.Case, heaps []int) cask.Trial {
 		return cask.Trial{Number: number, Strength: cask.Range(around(r, heaps[number]))}
 	}
 	number := r.IntN(len(c.Cellar.Casks))
-	return cask.Trial{Cask: true, Number: number, Strength: cask.Range(around(r, caskOf(c.Cellar.Casks[number], heaps)))}
+	return cask.Trial{Cask: true, Number: number, Strength: cask.Range(around(r, oracle.StrengthOf(c.Cellar.Casks[number], heaps)))}
 }
 
 // randomWeights are mostly small, so that a share changes much.
@@ -227,7 +184,7 @@ func randomWeights(r *rand.Rand, many int) []int {
 	for heap := range weights {
 		weights[heap] = []int{0, r.IntN(4), r.IntN(9), r.IntN(31)}[r.IntN(4)]
 	}
-	if sum(weights) == 0 {
+	if oracle.Sum(weights) == 0 {
 		weights[r.IntN(many)] = 1 + r.IntN(9)
 	}
 	return weights
@@ -242,7 +199,7 @@ func randomCase(r *rand.Rand, truths int) mix.Case {
 		c.Cellar.Casks = append(c.Cellar.Casks, randomWeights(r, heaps))
 	}
 	c.Sold = r.IntN(len(c.Cellar.Casks))
-	c.Most = min(sum(c.Cellar.Casks[c.Sold]), r.IntN(min(9, truths)))
+	c.Most = min(oracle.Sum(c.Cellar.Casks[c.Sold]), r.IntN(min(9, truths)))
 	truths /= c.Most + 1
 	for range heaps {
 		low, more := limited(middle+r.IntN(21)-10), r.IntN(min(truths, 6))

@@ -285,7 +285,7 @@ func TestWider(t *testing.T) {
 		case 0:
 			g.Bad = widen(r, c.Bad)
 		case 1:
-			g.Most = min(sum(c.Cellar.Casks[c.Sold]), c.Most+r.IntN(3))
+			g.Most = min(oracle.Sum(c.Cellar.Casks[c.Sold]), c.Most+r.IntN(3))
 		default:
 			for n := range g.Tests {
 				g.Tests[n] = widen(r, g.Tests[n])

@@ -6,7 +6,7 @@ import (
 
 	"isatis/api"
 	"isatis/cask"
-	"isatis/lists"
+	"isatis/cellar"
 )
 
 // filled is the strength of the cask that was filled so. It has an error if the
@@ -24,13 +24,8 @@ func (c Case) filled(heaps []int) (int, api.Errno) {
 // yielded.
 func (c Case) fills() iter.Seq2[[]int, int] {
 	return func(yield func([]int, int) bool) {
-		var parts [][]int
-		for _, r := range c.Cellar.Heaps {
-			parts = append(parts, lists.FromTo(r.Lo, r.Hi))
-		}
-		for heaps := range lists.Choices(parts) {
-			fill, e := c.filled(heaps)
-			if e == api.OK && cask.ProveTruth(c.Cellar, heaps) && !yield(heaps, fill) {
+		for heaps, casks := range cellar.Truths(c.Cellar) {
+			if !yield(heaps, casks[c.Sold]) {
 				return
 			}
 		}

@@ -20,13 +20,7 @@ func (r Range) size() int { return r.Hi - r.Lo + 1 }
 func (c Case) hasSold() bool { return 0 <= c.Sold && c.Sold < len(c.Cellar.Casks) }
 
 // weight is that of the sold cask, which there is.
-func (c Case) weight() int {
-	sum := 0
-	for _, weight := range c.Cellar.Casks[c.Sold] {
-		sum += weight
-	}
-	return sum
-}
+func (c Case) weight() int { return lists.Sum(c.Cellar.Casks[c.Sold]) }
 
 // valid is for cases whose cellar is valid. It leaves the limits to CheckCase, as
 // they are another error.

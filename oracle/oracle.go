@@ -55,3 +55,10 @@ func Without[T any](list []T, places []int) []T {
 	}
 	return kept
 }
+
+func Sum(list []int) (sum int) {
+	for _, n := range list {
+		sum += n
+	}
+	return sum
+}

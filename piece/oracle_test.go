@@ -53,13 +53,6 @@ func shadesOf(j piece.Job, y vat.Truth, dips int) []int {
 	return l
 }
 
-func sum(l []int) (n int) {
-	for _, x := range l {
-		n += x
-	}
-	return n
-}
-
 func dipsOf(plan []piece.Step) (n int) {
 	for _, s := range plan {
 		n += s.Dips
@@ -141,7 +134,7 @@ func rightsOf(j piece.Job) *rights {
 	for one, r := range j.Pieces {
 		for before := range 21 {
 			for dips := range 21 - before {
-				wrong := func(l []int) bool { return !isIn(sum(l[before:before+dips]), r) }
+				wrong := func(l []int) bool { return !isIn(oracle.Sum(l[before:before+dips]), r) }
 				all[one][before][dips] = !slices.ContainsFunc(shades, wrong)
 			}
 		}
@@ -280,7 +273,7 @@ func randomPiece(r *rand.Rand, j piece.Job) piece.Range {
 	before, dips := r.IntN(8), 1+r.IntN(6)
 	var sums []int
 	for _, y := range truthsOf(j.Vat) {
-		sums = append(sums, sum(shadesOf(j, y, before+dips)[before:]))
+		sums = append(sums, oracle.Sum(shadesOf(j, y, before+dips)[before:]))
 	}
 	low, high := slices.Min(sums), slices.Max(sums)
 	if r.IntN(5) == 0 {

@@ -7,6 +7,7 @@ import (
 	"testing"
 
 	"isatis/api"
+	"isatis/oracle"
 	"isatis/piece"
 	"isatis/vat"
 )
@@ -180,8 +181,8 @@ func TestAllTogether(t *testing.T) {
 			t.Fatalf("Shade of %v: %v", j, e)
 		}
 		for _, y := range truthsOf(j.Vat) {
-			n := sum(play(t, j, steps, y))
-			if n != sum(shadesOf(j, y, dipsOf(steps))) || n < all.Lo || n > all.Hi {
+			n := oracle.Sum(play(t, j, steps, y))
+			if n != oracle.Sum(shadesOf(j, y, dipsOf(steps))) || n < all.Lo || n > all.Hi {
 				t.Fatalf("Play of %v, %v, %v: %d together; %v", j, steps, y, n, all)
 			}
 		}
@@ -289,7 +290,7 @@ func TestOneMoreLook(t *testing.T) {
 		y := truths[r.IntN(len(truths))]
 		for one := range j.Pieces { // pieces that can be right in the truth
 			before, dips := r.IntN(4), 1+r.IntN(4)
-			n := sum(shadesOf(j, y, before+dips)[before:])
+			n := oracle.Sum(shadesOf(j, y, before+dips)[before:])
 			j.Pieces[one] = to(n, n+r.IntN(3))
 		}
 		g := with(j, randomLook(r, j.Vat, y))

@@ -39,11 +39,7 @@ func (j Job) shades(t vat.Truth) (all shades, e api.Errno) {
 type stretch struct{ before, dips int }
 
 func (s shades) sum(x stretch) int {
-	sum := 0
-	for _, shade := range s[x.before : x.before+x.dips] {
-		sum += shade
-	}
-	return sum
+	return lists.Sum(s[x.before : x.before+x.dips])
 }
 
 // stretches has the dips of each piece: none of a piece that is in no step.

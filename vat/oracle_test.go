@@ -76,13 +76,6 @@ func shadesOf(v vat.Vat, y vat.Truth, day, dips int) (shades []int) {
 	return shades
 }
 
-func sum(l []int) (n int) {
-	for _, x := range l {
-		n += x
-	}
-	return n
-}
-
 func right(v vat.Vat, l vat.Look, y vat.Truth) bool {
 	s := playOf(v, y)[l.Day]
 	if l.Balance {
@@ -144,7 +137,7 @@ func orderOf(v vat.Vat, day int) int {
 func shadeOf(v vat.Vat, day, dips int) vat.Range {
 	var sums []int
 	for _, y := range truthsOf(v) {
-		sums = append(sums, sum(shadesOf(v, y, day, dips)))
+		sums = append(sums, oracle.Sum(shadesOf(v, y, day, dips)))
 	}
 	return rangeOf(sums)
 }
@@ -175,7 +168,7 @@ func keepsOf(v vat.Vat, feeding []int) bool {
 }
 
 // bareOf is the bare balance of the day.
-func bareOf(y vat.Truth, day int) int { return y.Start + sum(y.Drift[:day+1]) }
+func bareOf(y vat.Truth, day int) int { return y.Start + oracle.Sum(y.Drift[:day+1]) }
 
 // mostOf is the number of the most days: it keeps every sum that can have been
 // fed by a day.

@@ -137,7 +137,7 @@ func TestInEachTruth(t *testing.T) {
 					t.Fatalf("Order of %v, %d: %d, but %v", v, on, kinds[on], s)
 				}
 			}
-			if n := sum(shades(t, v, y, day, dips)); n < sums.Lo || n > sums.Hi {
+			if n := oracle.Sum(shades(t, v, y, day, dips)); n < sums.Lo || n > sums.Hi {
 				t.Fatalf("Shade of %v, %d, %d: %v, but %d", v, day, dips, sums, n)
 			}
 		}

@@ -78,12 +78,8 @@ func (w *work) blue(c course, m measure) int { return c.blues[m.day] }
 
 // shade is the sum of the shades of the further dips.
 func (w *work) shade(c course, m measure) int {
-	sum := 0
 	all := w.shades(w.bath(c, m.day))
-	for _, shade := range all[:m.dips] {
-		sum += shade
-	}
-	return sum
+	return lists.Sum(all[:m.dips])
 }
 
 // bounds are those in all truths of the vat.

@@ -16,14 +16,6 @@ import (
 
 func isIn(n int, r wage.Range) bool { return r.Lo <= n && n <= r.Hi }
 
-func sum(l []int) int {
-	n := 0
-	for _, x := range l {
-		n += x
-	}
-	return n
-}
-
 func rowsOf(rows []int, weeder int) int {
 	many := 0
 	for _, said := range rows {
@@ -66,7 +58,7 @@ func allowedTruths(l wage.Ledger) (truths []wage.Truth) {
 			purses = append(purses, to(0, due))
 		}
 		for _, paid := range oracle.OneOfEach(purses...) {
-			if isIn(sum(paid), l.Box) {
+			if isIn(oracle.Sum(paid), l.Box) {
 				truths = append(truths, wage.Truth{Rows: rows, Paid: paid})
 			}
 		}
@@ -116,7 +108,7 @@ func owedOf(l wage.Ledger, y wage.Truth) (owed []int) {
 // sharedOf pays the pence that are left over one after the other, always to the
 // first one of those with the greatest remainder who were not paid one before.
 func sharedOf(money int, numbers []int) (shares []int) {
-	all, over := sum(numbers), money
+	all, over := oracle.Sum(numbers), money
 	var remainders []int
 	for _, n := range numbers {
 		share := money * n / all
@@ -140,7 +132,7 @@ func leastOwed(l wage.Ledger, truths []wage.Truth) (least []int) {
 
 func safeOf(l wage.Ledger, truths []wage.Truth, money int) []int {
 	least := leastOwed(l, truths)
-	if sum(least) <= money {
+	if oracle.Sum(least) <= money {
 		return least
 	}
 	return sharedOf(money, least)
@@ -252,7 +244,7 @@ func randomLedger(r *rand.Rand, rows, weeders, rate int) (wage.Ledger, wage.Trut
 	for _, due := range duesOf(l, truth) {
 		y.Paid = append(y.Paid, r.IntN(due/part+1))
 	}
-	l.Box = around(r, sum(y.Paid), r.IntN(3*rate)/part)
+	l.Box = around(r, oracle.Sum(y.Paid), r.IntN(3*rate)/part)
 	return l, y
 }
 

@@ -130,7 +130,7 @@ func TestInEachTruth(t *testing.T) {
 				continue
 			}
 			parts := sharedOf(pot, numbersOf(l.Field, y.Rows))
-			if !part.reach(shares, parts) || sum(parts) != pot {
+			if !part.reach(shares, parts) || oracle.Sum(parts) != pot {
 				t.Fatalf("Share of %v: %v, but %v", l, shares, parts)
 			}
 		}
@@ -154,32 +154,32 @@ func fewer() wage.Ledger {
 
 // P9.8
 func TestNeverTooMuch(t *testing.T) {
-	s := seen{}
+	s := oracle.Seen{}
 	for _, l := range append(ledgers(600, 3), fewer()) {
-		all := sum(leastOwed(l, truthsOf(l)))
+		all := oracle.Sum(leastOwed(l, truthsOf(l)))
 		var before []int
 		for money := range min(all+3, 60) {
 			payments := safe(t, l, money)
-			if !wage.ProveSafe(l, payments) || sum(payments) > money {
+			if !wage.ProveSafe(l, payments) || oracle.Sum(payments) > money {
 				t.Fatalf("Safe of %v, %d: %v", l, money, payments)
 			}
-			s.count("all of the money is paid", money > 0 && sum(payments) == money)
+			s.Count("all of the money is paid", money > 0 && oracle.Sum(payments) == money)
 			for weeder := range payments {
 				if before != nil && payments[weeder] < before[weeder]-1 {
 					t.Fatalf("Safe of %v, %d: %v; %v with a penny less", l, money, payments, before)
 				}
 				more := slices.Clone(payments)
 				more[weeder]++
-				if sum(payments) < money && wage.ProveSafe(l, more) {
+				if oracle.Sum(payments) < money && wage.ProveSafe(l, more) {
 					t.Fatalf("Safe of %v, %d: %v, but %v is safe", l, money, payments, more)
 				}
-				s.count("a payment is smaller", before != nil && payments[weeder] < before[weeder])
+				s.Count("a payment is smaller", before != nil && payments[weeder] < before[weeder])
 			}
 			before = payments
 		}
 	}
-	s.need(t, 50, "all of the money is paid")
-	s.need(t, 1, "a payment is smaller")
+	s.Need(t, 50, "all of the money is paid")
+	s.Need(t, 1, "a payment is smaller")
 }
 
 // P9.9
@@ -188,12 +188,12 @@ func TestAllThatWasEarned(t *testing.T) {
 		for _, rows := range fieldTruths(l.Field) {
 			dues, e := wage.Due(l, rows)
 			done := len(rows) - rowsOf(rows, -1)
-			if e != api.OK || sum(dues) != l.Rate*done {
+			if e != api.OK || oracle.Sum(dues) != l.Rate*done {
 				t.Fatalf("Due of %v, %v: %v, %v", l, rows, dues, e)
 			}
 		}
 		for _, y := range truthsOf(l) {
-			if done := len(y.Rows) - rowsOf(y.Rows, -1); !isIn(l.Rate*done-sum(owedOf(l, y)), l.Box) {
+			if done := len(y.Rows) - rowsOf(y.Rows, -1); !isIn(l.Rate*done-oracle.Sum(owedOf(l, y)), l.Box) {
 				t.Fatalf("%v: %v is owed in %v", l, owedOf(l, y), y)
 			}
 		}
@@ -202,7 +202,7 @@ func TestAllThatWasEarned(t *testing.T) {
 
 // P9.10
 func TestByTheField(t *testing.T) {
-	s := seen{}
+	s := oracle.Seen{}
 	for _, l := range ledgers(600, 3) {
 		done, e := weed.Done(l.Field)
 		if e != api.OK {
@@ -216,19 +216,19 @@ func TestByTheField(t *testing.T) {
 		if !inside(x.earned, want) {
 			t.Fatalf("Earned of %v: %v, not within %v", l, x.earned, want)
 		}
-		s.count("more is known by what was paid", !inside(want, x.earned))
+		s.Count("more is known by what was paid", !inside(want, x.earned))
 		l.Notes, l.Box = nil, to(0, 2000)
 		x = bounds(t, l)
 		if !slices.Equal(x.earned, want) || slices.ContainsFunc(x.owed, func(r wage.Range) bool { return r.Lo != 0 }) {
 			t.Fatalf("%v: %v earned, %v owed; not %v", l, x.earned, x.owed, want)
 		}
 	}
-	s.need(t, 30, "more is known by what was paid")
+	s.Need(t, 30, "more is known by what was paid")
 }
 
 // P9.11
 func TestOneMoreNote(t *testing.T) {
-	s := seen{}
+	s := oracle.Seen{}
 	for r, l := range randomLedgers(800, 3) {
 		truths := allowedTruths(l)
 		g := with(l, randomNote(r, l, truths[r.IntN(len(truths))]))
@@ -236,7 +236,7 @@ func TestOneMoreNote(t *testing.T) {
 		if d < 0 || d > 1 {
 			t.Fatalf("Leave of %v and of %v: %d more", l, g, d)
 		}
-		s.count("one more is left out", d == 1)
+		s.Count("one more is left out", d == 1)
 		if !hasTruth(g) {
 			continue
 		}
@@ -244,22 +244,22 @@ func TestOneMoreNote(t *testing.T) {
 		if !b.inside(a) {
 			t.Fatalf("%v is wider than %v", g, l)
 		}
-		s.count("narrower", !a.inside(b))
+		s.Count("narrower", !a.inside(b))
 		payments := safe(t, l, 2000)
 		if !wage.ProveSafe(g, payments) {
 			t.Fatalf("%v: %v is not safe; it was of %v", g, payments, l)
 		}
-		s.count("more can be paid", !slices.Equal(payments, safe(t, g, 2000)))
+		s.Count("more can be paid", !slices.Equal(payments, safe(t, g, 2000)))
 	}
-	s.need(t, 50, "one more is left out", "narrower")
-	s.need(t, 20, "more can be paid")
+	s.Need(t, 50, "one more is left out", "narrower")
+	s.Need(t, 20, "more can be paid")
 }
 
 func widen(r *rand.Rand, x wage.Range) wage.Range { return to(max(0, x.Lo-r.IntN(3)), x.Hi+r.IntN(3)) }
 
 // P9.12
 func TestWider(t *testing.T) {
-	s := seen{}
+	s := oracle.Seen{}
 	for r, l := range randomLedgers(800, 5) {
 		g := l
 		g.Notes = slices.Clone(l.Notes)
@@ -274,7 +274,7 @@ func TestWider(t *testing.T) {
 		if b > a {
 			t.Fatalf("Leave of %v: more than of %v", g, l)
 		}
-		s.count("less is left out", b < a)
+		s.Count("less is left out", b < a)
 		if !hasTruth(l) {
 			continue
 		}
@@ -282,10 +282,10 @@ func TestWider(t *testing.T) {
 		if !narrow.inside(wide) {
 			t.Fatalf("%v is narrower than %v", g, l)
 		}
-		s.count("wider", !wide.inside(narrow))
+		s.Count("wider", !wide.inside(narrow))
 	}
-	s.need(t, 20, "less is left out")
-	s.need(t, 50, "wider")
+	s.Need(t, 20, "less is left out")
+	s.Need(t, 50, "wider")
 }
 
 // P9.13
@@ -362,7 +362,7 @@ func times(many int, r wage.Range) wage.Range { return to(many*r.Lo, many*r.Hi) 
 
 // P9.16
 func TestRate(t *testing.T) {
-	s := seen{}
+	s := oracle.Seen{}
 	for r, l := range randomLedgers(600, 5) {
 		many := 2 + r.IntN(9)
 		g := l
@@ -373,7 +373,7 @@ func TestRate(t *testing.T) {
 		if !slices.Equal(leave(t, l), leave(t, g)) {
 			t.Fatalf("Leave of %v and of %v", l, g)
 		}
-		s.count("some are left out", len(leave(t, l)) > 0)
+		s.Count("some are left out", len(leave(t, l)) > 0)
 		before, e := wage.Earned(l)
 		after, f := wage.Earned(g)
 		if e != f {
@@ -385,7 +385,7 @@ func TestRate(t *testing.T) {
 			}
 		}
 	}
-	s.need(t, 50, "some are left out")
+	s.Need(t, 50, "some are left out")
 }
 
 // P7: notes, and the field's tallies, in another order.

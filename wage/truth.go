@@ -93,18 +93,10 @@ func (g wages) within(box Range) (wages, bool) {
 	return g, !together.both(box).isEmpty()
 }
 
-func sum(numbers []int) int {
-	all := 0
-	for _, n := range numbers {
-		all += n
-	}
-	return all
-}
-
 // shared shares money by numbers that are together more than 0. The pence that
 // are left over are always fewer than the numbers.
 func shared(money int, numbers []int) []int {
-	all := sum(numbers)
+	all := lists.Sum(numbers)
 	shares := make([]int, len(numbers))
 	for i, n := range numbers {
 		shares[i] = money * n / all
@@ -113,7 +105,7 @@ func shared(money int, numbers []int) []int {
 	slices.SortStableFunc(greatestFirst, func(i, j int) int {
 		return cmp.Compare(money*numbers[j]%all, money*numbers[i]%all)
 	})
-	for _, i := range greatestFirst[:money-sum(shares)] {
+	for _, i := range greatestFirst[:money-lists.Sum(shares)] {
 		shares[i]++
 	}
 	return shares

@@ -319,10 +319,10 @@ func TestProveSafe(t *testing.T) {
 // worked is a ledger in which all rows and payments are known: so many rows are
 // done by each weeder, at a penny each, and nothing was paid.
 func worked(rows ...int) wage.Ledger {
-	l := wage.Ledger{Field: weed.Field{Rows: sum(rows), Weeders: len(rows)}, Rate: 1}
+	l := wage.Ledger{Field: weed.Field{Rows: oracle.Sum(rows), Weeders: len(rows)}, Rate: 1}
 	for weeder, many := range rows {
 		l.Field.Tallies = append(l.Field.Tallies, weed.Tally{
-			Weeder: weeder, To: sum(rows) - 1, Count: weed.Range{Lo: many, Hi: many},
+			Weeder: weeder, To: oracle.Sum(rows) - 1, Count: weed.Range{Lo: many, Hi: many},
 		})
 	}
 	return l
@@ -371,24 +371,6 @@ func TestShared(t *testing.T) {
 	}
 }
 
-// seen counts what the ledgers of a test are like.
-type seen map[string]int
-
-func (s seen) count(name string, is bool) {
-	if is {
-		s[name]++
-	}
-}
-
-func (s seen) need(t *testing.T, least int, names ...string) {
-	t.Helper()
-	for _, name := range names {
-		if s[name] < least {
-			t.Errorf("only %d of the ledgers: %s", s[name], name)
-		}
-	}
-}
-
 func checkBounds(t *testing.T, l wage.Ledger, truths []wage.Truth) {
 	t.Helper()
 	earned, e1 := wage.Earned(l)
@@ -413,16 +395,16 @@ func checkBounds(t *testing.T, l wage.Ledger, truths []wage.Truth) {
 
 // P9.2: by the oracle.
 func TestBounds(t *testing.T) {
-	s := seen{}
+	s := oracle.Seen{}
 	check := func(l wage.Ledger) {
 		truths := truthsOf(l)
 		checkBounds(t, l, truths)
-		s.count("has a truth", len(truths) > 0)
-		s.count("has no truth", len(truths) == 0)
+		s.Count("has a truth", len(truths) > 0)
+		s.Count("has no truth", len(truths) == 0)
 		free := l
 		free.Box = to(0, 2000)
-		s.count("its box tells something", len(truths) > 0 && len(truths) < len(truthsOf(free)))
-		s.count("its notes tell something", len(truths) > 0 && len(truths) < len(allowedTruths(l)))
+		s.Count("its box tells something", len(truths) > 0 && len(truths) < len(truthsOf(free)))
+		s.Count("its notes tell something", len(truths) > 0 && len(truths) < len(allowedTruths(l)))
 	}
 	for _, l := range randomLedgers(800, 3) {
 		check(l)
@@ -430,24 +412,24 @@ func TestBounds(t *testing.T) {
 	for _, l := range bigLedgers() {
 		check(l)
 	}
-	s.need(t, 100, "has a truth", "has no truth", "its box tells something", "its notes tell something")
+	s.Need(t, 100, "has a truth", "has no truth", "its box tells something", "its notes tell something")
 }
 
 // P9.3: by the oracle, with each payment of so much that it is too much.
 func TestSafe(t *testing.T) {
-	s := seen{}
+	s := oracle.Seen{}
 	for _, l := range randomLedgers(1500, 3) {
 		truths := truthsOf(l)
 		if len(truths) == 0 {
 			continue
 		}
 		least := leastOwed(l, truths)
-		for money := range sum(least) + 2 {
+		for money := range oracle.Sum(least) + 2 {
 			safe, e := wage.Safe(l, money)
 			if e != api.OK || !slices.Equal(safe, safeOf(l, truths, money)) {
 				t.Fatalf("Safe of %v, %d: %v, %v", l, money, safe, e)
 			}
-			s.count("money is shared among several", money > 1 && money < sum(least) && slices.Max(least) < sum(least))
+			s.Count("money is shared among several", money > 1 && money < oracle.Sum(least) && slices.Max(least) < oracle.Sum(least))
 		}
 		var around []wage.Range
 		for _, owed := range least {
@@ -460,12 +442,12 @@ func TestSafe(t *testing.T) {
 			}
 		}
 	}
-	s.need(t, 50, "money is shared among several")
+	s.Need(t, 50, "money is shared among several")
 }
 
 // P9.4: by the oracle.
 func TestShare(t *testing.T) {
-	s := seen{}
+	s := oracle.Seen{}
 	check := func(l wage.Ledger, pot int) {
 		truths := truthsOf(l)
 		if len(truths) == 0 {
@@ -473,7 +455,7 @@ func TestShare(t *testing.T) {
 		}
 		shares, e := wage.Share(l, pot)
 		if slices.ContainsFunc(truths, nobodyWorked) {
-			s.count("nobody need have worked", true)
+			s.Count("nobody need have worked", true)
 			if e != api.ErrNone {
 				t.Fatalf("Share of %v, %d: %v, %v", l, pot, shares, e)
 			}
@@ -483,8 +465,8 @@ func TestShare(t *testing.T) {
 		if e != api.OK || !slices.Equal(shares, want) {
 			t.Fatalf("Share of %v, %d: %v, %v; not %v", l, pot, shares, e, want)
 		}
-		s.count("a share is not known", slices.ContainsFunc(want, func(r wage.Range) bool { return r.Lo < r.Hi }))
-		s.count("a share is known", slices.ContainsFunc(want, func(r wage.Range) bool { return r.Lo == r.Hi }))
+		s.Count("a share is not known", slices.ContainsFunc(want, func(r wage.Range) bool { return r.Lo < r.Hi }))
+		s.Count("a share is known", slices.ContainsFunc(want, func(r wage.Range) bool { return r.Lo == r.Hi }))
 	}
 	for r, l := range randomLedgers(600, 2) {
 		check(l, []int{r.IntN(20), r.IntN(2001), 2000}[r.IntN(3)])
@@ -492,12 +474,12 @@ func TestShare(t *testing.T) {
 	for _, l := range bigLedgers() {
 		check(l, 100)
 	}
-	s.need(t, 30, "nobody need have worked", "a share is not known", "a share is known")
+	s.Need(t, 30, "nobody need have worked", "a share is not known", "a share is known")
 }
 
 // P9.5: by the oracle, which tries every list of rows.
 func TestSettle(t *testing.T) {
-	s := seen{}
+	s := oracle.Seen{}
 	for _, l := range randomLedgers(120, 3) {
 		var fewest []int
 		found := false
@@ -513,11 +495,11 @@ func TestSettle(t *testing.T) {
 		if rows, e := wage.Settle(l); e != api.OK || !slices.Equal(rows, fewest) {
 			t.Fatalf("Settle of %v: %v, %v; not %v", l, rows, e, fewest)
 		}
-		s.count("all is known", len(fewest) == 0)
-		s.count("some rows tell all", len(fewest) > 0 && len(fewest) < l.Field.Rows)
-		s.count("it has no truth", !hasTruth(l))
+		s.Count("all is known", len(fewest) == 0)
+		s.Count("some rows tell all", len(fewest) > 0 && len(fewest) < l.Field.Rows)
+		s.Count("it has no truth", !hasTruth(l))
 	}
-	s.need(t, 10, "all is known", "some rows tell all", "it has no truth")
+	s.Need(t, 10, "all is known", "some rows tell all", "it has no truth")
 }
 
 // P9.5: lists of rows that are not valid, and ledgers whose notes are false.
@@ -546,7 +528,7 @@ func TestProveSettle(t *testing.T) {
 
 // P9.1, P9.6: by the oracle, which tries every set of notes, and every payment.
 func TestFirstAndLeave(t *testing.T) {
-	s := seen{}
+	s := oracle.Seen{}
 	for _, l := range randomLedgers(800, 5) {
 		first, e := firstOf(l)
 		if n, g := wage.First(l); n != first || g != e {
@@ -556,10 +538,10 @@ func TestFirstAndLeave(t *testing.T) {
 		if notes, g := wage.Leave(l); g != api.OK || !slices.Equal(notes, smallest) {
 			t.Fatalf("Leave of %v: %v, %v; not %v", l, notes, g, smallest)
 		}
-		s.count("a note is wrong", len(smallest) > 0)
-		s.count("two notes are wrong", len(smallest) > 1)
+		s.Count("a note is wrong", len(smallest) > 0)
+		s.Count("two notes are wrong", len(smallest) > 1)
 	}
-	s.need(t, 50, "a note is wrong", "two notes are wrong")
+	s.Need(t, 50, "a note is wrong", "two notes are wrong")
 }
 
 // P9.6: all notes have to be left out, or all but one.
@@ -583,7 +565,7 @@ func TestLeaveAll(t *testing.T) {
 
 // P9.1: by the oracle, of each payment of a truth of the field, and of some more.
 func TestProveTruth(t *testing.T) {
-	s := seen{}
+	s := oracle.Seen{}
 	for _, l := range randomLedgers(150, 2) {
 		truths := truthsOf(l)
 		for _, rows := range fieldTruths(l.Field) {
@@ -600,10 +582,10 @@ func TestProveTruth(t *testing.T) {
 				if wage.ProveTruth(l, wage.Truth{Rows: rows, Paid: paid}) != want {
 					t.Fatalf("ProveTruth of %v, %v, %v: %v", l, rows, paid, !want)
 				}
-				s.count("a truth", want)
-				s.count("no truth", !want)
+				s.Count("a truth", want)
+				s.Count("no truth", !want)
 			}
 		}
 	}
-	s.need(t, 500, "a truth", "no truth")
+	s.Need(t, 500, "a truth", "no truth")
 }
